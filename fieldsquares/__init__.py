@@ -1,0 +1,1 @@
+"""Squaremark: texts as squares of dark and light fields."""
