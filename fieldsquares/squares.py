@@ -22,7 +22,7 @@ def least(l, v, t):
         return [-1]
     # Once for each width, not for each size: finding the bits is what takes long.
     needed = [fewest_bits(width, t) for width in WIDTHS]
-    for size in range(v, LAST_SIZE + 1):
-        if needed[width_of(size)] <= data_bits(size, l):
-            return [size]
+    for w in range(v, LAST_SIZE + 1):
+        if needed[width_of(w)] <= data_bits(w, l):
+            return [w]
     return [-2]
