@@ -1,5 +1,6 @@
-"""How the bytes of a square are shared between data and checks."""
+"""How the bytes of a square are shared between data and checks, and where they stand."""
 
+from fieldsquares.eightbits import Products, checks_of
 from fieldsquares.layout import free_count
 
 # Both by level, and within it by size from 1 on.
@@ -17,8 +18,9 @@ BLOCKS = (
 )
 
 
-def is_level(l):
-    return 0 <= l <= 3
+def check_count(v, l):
+    """How many checks each block has."""
+    return CHECKS[l][v - 1]
 
 
 def byte_count(v):
@@ -27,4 +29,43 @@ def byte_count(v):
 
 
 def data_bits(v, l):
-    return 8 * (byte_count(v) - BLOCKS[l][v - 1] * CHECKS[l][v - 1])
+    return 8 * (byte_count(v) - BLOCKS[l][v - 1] * check_count(v, l))
+
+
+def data_lengths(v, l):
+    """How many bytes of the data each block has."""
+    count = byte_count(v)
+    blocks = BLOCKS[l][v - 1]
+    short = count // blocks - check_count(v, l)
+    return [short if i < blocks - count % blocks else short + 1 for i in range(blocks)]
+
+
+def block_places(v, l):
+    """For each block, where among the square's bytes its own ones stand: its data, then its checks."""
+    lengths = data_lengths(v, l)
+    places = [[] for length in lengths]
+    at = 0
+    for i in range(max(lengths)):
+        for k, length in enumerate(lengths):
+            if i < length:
+                places[k].append(at)
+                at = at + 1
+    for i in range(check_count(v, l)):
+        for k in range(len(lengths)):
+            places[k].append(at)
+            at = at + 1
+    return places
+
+
+def square_bytes(v, l, data):
+    """The data and their checks as they stand in the square."""
+    products = Products()
+    e = check_count(v, l)
+    found = [0] * byte_count(v)
+    start = 0
+    for places in block_places(v, l):
+        block = data[start:start + len(places) - e]
+        start = start + len(block)
+        for place, byte in zip(places, block + checks_of(products, e, block)):
+            found[place] = byte
+    return found

@@ -1,8 +1,17 @@
 """The calls: each answers one list of whole numbers; a refusal is one number below 0 alone."""
 
-from fieldsquares.blocks import data_bits, is_level
-from fieldsquares.layout import LAST_SIZE, is_size
+from fieldsquares.binary import bytes_bits
+from fieldsquares.blocks import data_bits, square_bytes
+from fieldsquares.drawing import byte_rows, drawn, lightest_mask
+from fieldsquares.layout import LAST_SIZE, is_size, side
+from fieldsquares.marks import is_level, is_mask
+from fieldsquares.parts import read_text, text_bits, text_data
+from fieldsquares.reading import bytes_as_they_stand, lost_bytes, mended_data, said_by_copies, whole_rows
 from fieldsquares.texts import WIDTHS, fewest_bits, is_text, width_of
+from fieldsquares.weights import square_weight
+
+# In the place of a mask, it asks for the one that makes the least weight.
+LIGHTEST = 8
 
 
 def room(v, l):
@@ -26,3 +35,39 @@ def least(l, v, t):
         if needed[width_of(w)] <= data_bits(w, l):
             return [w]
     return [-2]
+
+
+def make(v, l, m, t):
+    if not (is_size(v) and is_level(l) and (is_mask(m) or m == LIGHTEST) and is_text(t)):
+        return [-1]
+    written = text_bits(width_of(v), t)
+    if len(written) > data_bits(v, l):
+        return [-2]
+    data = text_data(written, data_bits(v, l) // 8)
+    unmasked = byte_rows(v, square_bytes(v, l, data))
+    mask = lightest_mask(v, l, unmasked) if m == LIGHTEST else m
+    return [mask, side(v)] + drawn(v, l, mask, unmasked)
+
+
+def read(v, d, u):
+    if not is_size(v):
+        return [-1]
+    rows = whole_rows(side(v), d)
+    unknown = whole_rows(side(v), u)
+    said = said_by_copies(v, rows, unknown)
+    if said is None:
+        return [-2]
+    lost = lost_bytes(v, unknown)
+    mended = mended_data(v, said[0], bytes_as_they_stand(v, said[1], rows), lost)
+    if mended is None:
+        return [-3]
+    text = read_text(width_of(v), bytes_bits(mended[1]))
+    if text is None:
+        return [-4]
+    return [0] + said + [mended[0], len([byte for byte in lost if byte != 0]), len(text)] + text
+
+
+def weigh(v, d):
+    if not is_size(v):
+        return [-1]
+    return [square_weight(side(v), whole_rows(side(v), d))]

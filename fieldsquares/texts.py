@@ -1,4 +1,6 @@
-"""Texts as parts of three kinds, and the fewest bits that they take."""
+"""Texts as parts of three kinds, and the cut into parts that takes the fewest bits."""
+
+from fieldsquares.binary import all_ones
 
 LONGEST_TEXT = 400
 
@@ -20,6 +22,12 @@ LETTER_BYTES = (
 LENGTH_BITS = {1: (10, 12), 2: (9, 11), 4: (8, 16)}
 WIDTHS = (0, 1)
 
+# How many bits a group of no, one, two, .. bytes of a kind has; all groups but the last are of the most bytes.
+GROUP_BITS = {1: (0, 4, 7, 10), 2: (0, 6, 11), 4: (0, 8)}
+
+# A cut's cost is its bits times this, plus its parts, so that of like bits the fewest parts cost the least.
+BIT_COST = 1024
+
 
 def is_text(t):
     return len(t) <= LONGEST_TEXT
@@ -38,34 +46,74 @@ def may_have(kind, byte):
     return True
 
 
+def group_size(kind):
+    return len(GROUP_BITS[kind]) - 1
+
+
 def body_bits(kind, n):
     """The bits of a part's n bytes, without its kind's number and its length."""
-    if kind == DIGITS:
-        return n // 3 * 10 + (0, 4, 7)[n % 3]
-    if kind == LETTERS:
-        return n // 2 * 11 + n % 2 * 6
-    return 8 * n
+    whole = group_size(kind)
+    return n // whole * GROUP_BITS[kind][whole] + GROUP_BITS[kind][n % whole]
 
 
 def part_costs(kind, width, most):
-    """The bits of a whole part of 1, 2, .. bytes, up to most or to what its length can say."""
+    """What a whole part of 1, 2, .. bytes costs, up to most or to what its length can say."""
     length_bits = LENGTH_BITS[kind][width]
-    longest = min(most, (1 << length_bits) - 1)
-    return [4 + length_bits + body_bits(kind, n) for n in range(1, longest + 1)]
+    longest = min(most, all_ones(length_bits))
+    return [BIT_COST * (4 + length_bits + body_bits(kind, n)) + 1 for n in range(1, longest + 1)]
 
 
-def fewest_bits(width, t):
-    """The bits of the cut with the fewest.
+def all_part_costs(width, most):
+    return [part_costs(kind, width, most) for kind in KINDS]
+
+
+def least_costs(costs, t):
+    """What the best cut costs of the text from each place on.
 
     It goes from the text's end: what is best behind a part doesn't depend on the parts before.
     """
-    costs = [part_costs(kind, width, len(t)) for kind in KINDS]
     runs = [0] * len(KINDS)
-    fewest = [0] * (len(t) + 1)
+    found = [0] * (len(t) + 1)
     for i in range(len(t) - 1, -1, -1):
         totals = []
         for k, kind in enumerate(KINDS):
             runs[k] = runs[k] + 1 if may_have(kind, t[i]) else 0
-            totals.extend([cost + rest for cost, rest in zip(costs[k][:runs[k]], fewest[i + 1:])])
-        fewest[i] = min(totals)
-    return fewest[0]
+            totals.extend([cost + rest for cost, rest in zip(costs[k][:runs[k]], found[i + 1:])])
+        found[i] = min(totals)
+    return found
+
+
+def fewest_bits(width, t):
+    """The bits of the cut with the fewest."""
+    return least_costs(all_part_costs(width, len(t)), t)[0] // BIT_COST
+
+
+def run_length(kind, t, start):
+    """How many bytes from a place on the kind may have."""
+    end = start
+    while end < len(t) and may_have(kind, t[end]):
+        end = end + 1
+    return end - start
+
+
+def first_part(costs, rests, t, start):
+    """The best cut's part at a place: of the kind with the least number that does, and the longest of it."""
+    found = []
+    for k, kind in enumerate(KINDS):
+        longest = min(run_length(kind, t, start), len(costs[k]))
+        left = rests[start]
+        found.extend([(kind, n) for n in range(longest, 0, -1) if costs[k][n - 1] + rests[start + n] == left])
+    return found[0]
+
+
+def text_cut(width, t):
+    """The text's cut, a list of (kind, how many bytes)."""
+    costs = all_part_costs(width, len(t))
+    rests = least_costs(costs, t)
+    found = []
+    start = 0
+    while start < len(t):
+        part = first_part(costs, rests, t, start)
+        found.append(part)
+        start = start + part[1]
+    return found

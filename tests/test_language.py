@@ -27,6 +27,15 @@ WORDS_LEFT_OUT = r"""
     NamedTuple|TypedDict|TYPE_CHECKING|abstractmethod)\b|dataclass|overload|contextmanager
 """
 
+METHODS = """
+    append clear copy count endswith extend find get index insert isalnum isalpha isdigit islower isspace isupper
+    items join keys ljust lower lstrip partition pop remove replace reverse rfind rjust rpartition rsplit rstrip
+    setdefault split splitlines startswith strip update upper values zfill bit_length
+""".split()
+
+WALKED = ("zip", "enumerate", "reversed", "range", "items", "keys", "values")
+WALKERS = ("list", "tuple", "dict", "sorted", "sum", "any", "all", "enumerate", "zip", "min", "max")
+
 
 def sources():
     return {path: path.read_text(encoding="utf-8") for path in sorted(PACKAGE.glob("*.py"))}
@@ -36,6 +45,26 @@ def nodes():
     for path, source in sources().items():
         for node in ast.walk(ast.parse(source)):
             yield f"{path.name}:{getattr(node, 'lineno', 0)}", node
+
+
+def called(node):
+    """What a call calls: a name, or the method of a value."""
+    return node.func.id if isinstance(node.func, ast.Name) else node.func.attr
+
+
+def imports_of(tree):
+    found = [node for node in ast.walk(tree) if isinstance(node, ast.ImportFrom)]
+    return [(node.module, name.name) for node in found for name in node.names]
+
+
+def defined_in(tree):
+    found = []
+    for node in tree.body:
+        if isinstance(node, (ast.FunctionDef, ast.ClassDef)):
+            found.append(node.name)
+        elif isinstance(node, ast.Assign):
+            found.extend(target.id for target in node.targets)
+    return found
 
 
 class Language(unittest.TestCase):
@@ -70,6 +99,69 @@ class Language(unittest.TestCase):
                 self.assertEqual(node.level, 0, where)
                 self.assertTrue(node.module.startswith("fieldsquares."), where)
                 self.assertNotIn("*", [name.name for name in node.names], where)
+
+    def test_a_name_is_drawn_from_the_file_that_defines_it(self):
+        trees = {f"fieldsquares.{path.stem}": ast.parse(source) for path, source in sources().items()}
+        for module, tree in trees.items():
+            names = defined_in(tree)
+            self.assertEqual(len(names), len(set(names)), module)
+            for drawn, name in imports_of(tree):
+                self.assertIn(name, defined_in(trees[drawn]), module)
+
+    def test_no_two_files_draw_from_one_another(self):
+        trees = {f"fieldsquares.{path.stem}": ast.parse(source) for path, source in sources().items()}
+        left = {module: {drawn for drawn, _ in imports_of(tree)} for module, tree in trees.items()}
+        while left:
+            free = [module for module, drawn in left.items() if not drawn & set(left)]
+            self.assertTrue(free, left)
+            for module in free:
+                del left[module]
+
+    def test_no_local_is_called_like_an_import_or_a_class(self):
+        for path, source in sources().items():
+            tree = ast.parse(source)
+            taken = {name for _, name in imports_of(tree)}
+            taken |= {node.name for node in ast.walk(tree) if isinstance(node, ast.ClassDef)}
+            for node in ast.walk(tree):
+                if isinstance(node, ast.Name) and isinstance(node.ctx, ast.Store):
+                    self.assertNotIn(node.id, taken, f"{path.name}:{node.lineno}")
+                if isinstance(node, ast.arg):
+                    self.assertNotIn(node.arg, taken, f"{path.name}:{node.lineno}")
+
+    def test_methods_and_exponents_and_is(self):
+        own = [node.name for _, node in nodes() if isinstance(node, ast.FunctionDef)]
+        for where, node in nodes():
+            if isinstance(node, ast.Call) and isinstance(node.func, ast.Attribute):
+                self.assertIn(node.func.attr, METHODS + own, where)
+            if isinstance(node, ast.BinOp) and isinstance(node.op, ast.Pow):
+                self.assertIsInstance(node.right, ast.Constant, where)
+            if isinstance(node, ast.Compare) and isinstance(node.ops[0], (ast.Is, ast.IsNot)):
+                self.assertIn(node.comparators[0].value, (None, True, False), where)
+
+    def test_walked_at_once(self):
+        fine = set()
+        for path, source in sources().items():
+            tree = ast.parse(source)
+            for node in ast.walk(tree):
+                if isinstance(node, (ast.For, ast.comprehension)):
+                    fine.add(node.iter)
+                if isinstance(node, ast.Call) and called(node) in WALKERS and node.args:
+                    fine.add(node.args[0])
+                if isinstance(node, ast.Call) and called(node) in WALKED:
+                    self.assertIn(node, fine, f"{path.name}:{node.lineno}")
+
+    def test_what_a_file_s_top_holds_is_not_changed(self):
+        for path, source in sources().items():
+            tree = ast.parse(source)
+            held = [name for name in defined_in(tree) if name.isupper()]
+            held += [name for _, name in imports_of(tree) if name.isupper()]
+            for node in ast.walk(tree):
+                where = f"{path.name}:{getattr(node, 'lineno', 0)}"
+                if isinstance(node, ast.Subscript) and isinstance(node.ctx, ast.Store):
+                    self.assertNotIn(getattr(node.value, "id", ""), held, where)
+                if isinstance(node, ast.Call) and isinstance(node.func, ast.Attribute):
+                    if getattr(node.func.value, "id", "") in held:
+                        self.assertIn(node.func.attr, ("index", "get", "count", "items", "keys", "values"), where)
 
     def test_functions(self):
         for where, node in nodes():

@@ -1,15 +1,13 @@
 import unittest
 
-from fieldsquares.layout import fixed_fields, free_count, side, small_square_places
+from fieldsquares.blocks import block_places, byte_count
+from fieldsquares.layout import fixed_colours, free_count, free_fields, side, small_square_places
+from helper import ALL_SIZES_AND_LEVELS, CENTRES, block_numbers, walk
 
 
 class Layout(unittest.TestCase):
     def test_small_square_places(self):
-        known = {
-            1: [], 2: [6, 18], 3: [6, 22], 4: [6, 26], 5: [6, 30], 6: [6, 34], 7: [6, 22, 38],
-            8: [6, 24, 42], 9: [6, 26, 46], 10: [6, 28, 50], 11: [6, 30, 54], 12: [6, 32, 58],
-        }
-        for v, places in known.items():
+        for v, places in CENTRES.items():
             self.assertEqual(sorted(small_square_places(v)), places, v)
 
     def test_free_counts(self):
@@ -18,7 +16,7 @@ class Layout(unittest.TestCase):
 
     def test_fixed_fields_lie_within_the_square(self):
         for v in range(1, 13):
-            for x, y in fixed_fields(v):
+            for x, y in fixed_colours(v, 0):
                 self.assertTrue(0 <= x < side(v) and 0 <= y < side(v), (v, x, y))
 
     def test_size_1_field_by_field(self):
@@ -43,9 +41,25 @@ class Layout(unittest.TestCase):
         drawn += ["#" * 9 + "." * 36] * 4
         self.assert_drawn(7, drawn)
 
+    def test_each_field_is_fixed_or_has_one_place_in_the_order(self):
+        for v in range(1, 13):
+            fields = list(fixed_colours(v, 0)) + free_fields(v)
+            self.assertEqual(sorted(fields), [(x, y) for x in range(side(v)) for y in range(side(v))], v)
+
+    def test_the_order_against_a_walk(self):
+        for v in range(1, 13):
+            self.assertEqual(free_fields(v), walk(v), v)
+
+    def test_each_byte_stands_in_one_place_of_one_block(self):
+        for v, l in ALL_SIZES_AND_LEVELS:
+            places = block_places(v, l)
+            self.assertEqual(sorted(sum(places, [])), list(range(byte_count(v))), (v, l))
+            for at, (k, i) in enumerate(block_numbers(v, l)):
+                self.assertEqual(places[k][i], at, (v, l))
+
     def assert_drawn(self, v, drawn):
         s = side(v)
-        fixed = fixed_fields(v)
+        fixed = fixed_colours(v, 0)
         seen = ["".join("#" if (x, y) in fixed else "." for x in range(s)) for y in range(s)]
         self.assertEqual(seen, drawn)
 
