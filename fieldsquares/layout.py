@@ -1,6 +1,6 @@
 """Which fields of a square are fixed, and the order of the others. A field is (x, y), its column and its row."""
 
-from fieldsquares.marks import size_number
+from fieldsquares.marks import FIRST_SHOWN_SIZE, size_number
 
 LAST_SIZE = 12
 
@@ -71,7 +71,7 @@ def level_fields(s):
 
 def size_fields(v):
     """Where the size's number stands: two lists, of each bit's field from bit 0 on."""
-    if v < 7:
+    if v < FIRST_SHOWN_SIZE:
         return [[], []]
     start = side(v) - 11
     first = [(start + i % 3, i // 3) for i in range(18)]

@@ -5,6 +5,12 @@ from fieldsquares.binary import ones
 LEVEL_NUMBERS = (1, 0, 3, 2)
 MASK_COUNT = 8
 
+# How many bits the number of level and mask has.
+LEVEL_BITS = 15
+
+# Smaller squares don't show their size.
+FIRST_SHOWN_SIZE = 7
+
 # Any two numbers of level and mask differ in seven bits at least, so up to this there is one at most.
 FARTHEST = 6
 

@@ -4,7 +4,8 @@ from fieldsquares.binary import bytes_bits
 from fieldsquares.blocks import data_bits, square_bytes
 from fieldsquares.drawing import byte_rows, drawn, lightest_mask
 from fieldsquares.layout import LAST_SIZE, is_size, side
-from fieldsquares.marks import is_level, is_mask
+from fieldsquares.marks import FIRST_SHOWN_SIZE, LEVEL_BITS
+from fieldsquares.marks import is_level, is_mask, level_and_mask, level_number, size_number
 from fieldsquares.parts import read_text, text_bits, text_data
 from fieldsquares.reading import bytes_as_they_stand, lost_bytes, mended_data, said_by_copies, whole_rows
 from fieldsquares.texts import WIDTHS, fewest_bits, is_text, width_of
@@ -71,3 +72,22 @@ def weigh(v, d):
     if not is_size(v):
         return [-1]
     return [square_weight(side(v), whole_rows(side(v), d))]
+
+
+def format_of(l, m):
+    if not (is_level(l) and is_mask(m)):
+        return [-1]
+    return [level_number(l, m)]
+
+
+def nearest(x):
+    if x.bit_length() > LEVEL_BITS:
+        return [-1]
+    # With nothing unknown, as far as a copy may be off is three bits; where none is that near, it says -1 already.
+    return [level_and_mask(x, 0)]
+
+
+def size(v):
+    if not (is_size(v) and v >= FIRST_SHOWN_SIZE):
+        return [-1]
+    return [size_number(v)]
