@@ -29,25 +29,21 @@ def locator_of(products, values, lost_roots):
     """The shortest locator of the lost bytes and of as few wrong ones as make these values.
 
     Value by value, a locator that does for the values so far is changed by an earlier one that didn't do for
-    the value behind it, such that it does for the next value too.
+    the value behind it, such that it does for the next value too. Its highest coefficient may become 0: then it has
+    fewer zeros than its length says, and there is no near word.
     """
     locator = [1]
     for root in lost_roots:
         locator = with_factor(products, locator, root)
     earlier = locator
-    lost = len(lost_roots)
-    length = lost
-    for k in range(lost, len(values)):
+    for k in range(len(lost_roots), len(values)):
         off = folded(products, locator, values, k)
         earlier = [0] + earlier
         if off != 0:
             changed = poly_sum(locator, products.all_times(off, earlier))
-            if 2 * length <= k + lost:
+            if len(changed) > len(locator):
                 earlier = products.all_times(products.inverse(off), locator)
-                length = k + 1 + lost - length
             locator = changed
-    while locator[-1] == 0:
-        locator.pop()
     return locator
 
 

@@ -403,6 +403,12 @@ class Parts(unittest.TestCase):
             cut += bits_of_part("letters", v, text("3A")) + bits_of_part("bytes", v, [255])
             self.assert_text(v, 0, cut, text("123A") + [255])
 
+    def test_lengths_with_their_highest_bit(self):
+        for kind, t in (("digits", text("0123456789" * 54)), ("letters", text("ABCDE: $+-" * 30)),
+                        ("bytes", list(range(28, 228)))):
+            self.assertGreaterEqual(len(t), 2 ** (length_bits(kind, 9) - 1))
+            self.assert_text(9, 0, bits_of_part(kind, 9, t), t)
+
     def test_texts_of_more_than_400_bytes(self):
         t = text("0123456789" * 88)
         self.assert_text(12, 0, bits_of_part("digits", 12, t), t)
