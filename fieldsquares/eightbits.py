@@ -1,5 +1,13 @@
 """Bytes as numbers of a field of 256: their sum is the exclusive or. A row of them has a value at a number."""
 
+# Behind 255 powers of 2 they begin anew: in a longer row two bytes would count alike.
+LONGEST_ROW = 255
+MOST_CHECKS = 64
+
+
+def is_check_count(e):
+    return 1 <= e <= MOST_CHECKS
+
 
 def twice(a):
     return 2 * a ^ 0x11D if 2 * a > 255 else 2 * a

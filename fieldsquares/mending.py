@@ -7,6 +7,11 @@ first, that is 0 just where the inverse of a wrong or lost byte's root is.
 from fieldsquares.eightbits import row_value, row_values, with_factor
 
 
+def are_lost_places(numbers, length):
+    """Whether these are places of a row of that length, rising: each below the next, the last below the length."""
+    return all([a < b for a, b in zip(numbers, numbers[1:] + [length])])
+
+
 def poly_value(products, poly, x):
     return row_value(products, poly[::-1], x)
 

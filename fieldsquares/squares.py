@@ -3,9 +3,11 @@
 from fieldsquares.binary import bytes_bits
 from fieldsquares.blocks import data_bits, square_bytes
 from fieldsquares.drawing import byte_rows, drawn, lightest_mask
-from fieldsquares.layout import LAST_SIZE, is_size, side
+from fieldsquares.eightbits import LONGEST_ROW, Products, checks_of, is_check_count
+from fieldsquares.layout import LAST_SIZE, free_fields, is_size, side
 from fieldsquares.marks import FIRST_SHOWN_SIZE, LEVEL_BITS
 from fieldsquares.marks import is_level, is_mask, level_and_mask, level_number, size_number
+from fieldsquares.mending import are_lost_places, differing, mended
 from fieldsquares.parts import read_text, text_bits, text_data
 from fieldsquares.reading import bytes_as_they_stand, lost_bytes, mended_data, said_by_copies, whole_rows
 from fieldsquares.texts import WIDTHS, fewest_bits, is_text, width_of
@@ -59,13 +61,13 @@ def read(v, d, u):
     if said is None:
         return [-2]
     lost = lost_bytes(v, unknown)
-    mended = mended_data(v, said[0], bytes_as_they_stand(v, said[1], rows), lost)
-    if mended is None:
+    outcome = mended_data(v, said[0], bytes_as_they_stand(v, said[1], rows), lost)
+    if outcome is None:
         return [-3]
-    text = read_text(width_of(v), bytes_bits(mended[1]))
+    text = read_text(width_of(v), bytes_bits(outcome[1]))
     if text is None:
         return [-4]
-    return [0] + said + [mended[0], len([byte for byte in lost if byte != 0]), len(text)] + text
+    return [0] + said + [outcome[0], len([byte for byte in lost if byte != 0]), len(text)] + text
 
 
 def weigh(v, d):
@@ -91,3 +93,28 @@ def size(v):
     if not (is_size(v) and v >= FIRST_SHOWN_SIZE):
         return [-1]
     return [size_number(v)]
+
+
+def place(v, i):
+    if not is_size(v):
+        return [-1]
+    fields = free_fields(v)
+    if i >= len(fields):
+        return [-1]
+    return list(fields[i])
+
+
+def check(e, d):
+    if not (is_check_count(e) and len(d) + e <= LONGEST_ROW):
+        return [-1]
+    return [e] + checks_of(Products(), e, d)
+
+
+def mend(e, d, k):
+    if not (is_check_count(e) and e <= len(d) <= LONGEST_ROW and are_lost_places(k, len(d))):
+        return [-1]
+    word = mended(Products(), e, d, k)
+    if word is None:
+        return [-2]
+    # Unlike in read, lost bytes count too, where they are others.
+    return [differing(d, word, []), len(word)] + word

@@ -278,11 +278,13 @@ def times(a, b):
 PRODUCTS = [[times(a, b) for b in range(256)] for a in range(256)]
 
 
+POWERS = [1]
+
+
 def power_of_2(k):
-    found = 1
-    for _ in range(k):
-        found = PRODUCTS[2][found]
-    return found
+    while len(POWERS) <= k:
+        POWERS.append(PRODUCTS[2][POWERS[-1]])
+    return POWERS[k]
 
 
 def value_at(row, x):
