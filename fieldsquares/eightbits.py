@@ -5,6 +5,10 @@ LONGEST_ROW = 255
 MOST_CHECKS = 64
 
 
+def is_byte(a):
+    return 0 <= a <= 255
+
+
 def is_check_count(e):
     return 1 <= e <= MOST_CHECKS
 
@@ -33,8 +37,8 @@ class Products:
         return self.powers[(self.exponents[a] + self.exponents[b]) % 255]
 
     def inverse(self, a):
-        """The number that makes 1 with a, which isn't 0."""
-        return self.power(-self.exponents[a])
+        """The number that makes 1 with a; there is none for 0, which has 0 here."""
+        return 0 if a == 0 else self.power(-self.exponents[a])
 
     def all_times(self, a, row):
         return [self.times(a, b) for b in row]

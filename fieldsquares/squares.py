@@ -3,7 +3,7 @@
 from fieldsquares.binary import bytes_bits
 from fieldsquares.blocks import data_bits, square_bytes
 from fieldsquares.drawing import byte_rows, drawn, lightest_mask
-from fieldsquares.eightbits import LONGEST_ROW, Products, checks_of, is_check_count
+from fieldsquares.eightbits import LONGEST_ROW, Products, checks_of, is_byte, is_check_count
 from fieldsquares.layout import LAST_SIZE, free_fields, is_size, side
 from fieldsquares.marks import FIRST_SHOWN_SIZE, LEVEL_BITS
 from fieldsquares.marks import is_level, is_mask, level_and_mask, level_number, size_number
@@ -118,3 +118,10 @@ def mend(e, d, k):
         return [-2]
     # Unlike in read, lost bytes count too, where they are others.
     return [differing(d, word, []), len(word)] + word
+
+
+def times(a, b):
+    if not (is_byte(a) and is_byte(b)):
+        return [-1]
+    products = Products()
+    return [products.times(a, b), products.inverse(a)]

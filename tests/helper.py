@@ -265,6 +265,12 @@ def blocks_off(v, l, stream):
     return blocks
 
 
+def data_off(v, l, m, rows):
+    lengths, _ = block_lengths(v, l)
+    blocks = blocks_off(v, l, bytes_off(v, m, rows))
+    return [byte for block, length in zip(blocks, lengths) for byte in block[:length]]
+
+
 def times(a, b):
     """The product, by the document's words."""
     total = 0
@@ -453,3 +459,43 @@ def weight_terms(v, rows):
             blocks += 3 if len({lines[b][a] for a in (x, x + 1) for b in (y, y + 1)}) == 1 else 0
     dark_count = sum(line.count("1") for line in lines[:s])
     return runs, blocks, elevens, 10 * (abs(20 * dark_count - 10 * s * s) // (s * s))
+
+
+# From here on: squares as they come, with wrong and unknown fields.
+
+def answer_of(l, m, t, copy=0, wrong=0, lost=0):
+    """What read answers."""
+    return [0, l, m, copy, wrong, lost, len(t)] + list(t)
+
+
+def fields_by_block(v, l):
+    """For each block, the eight fields of each of its bytes."""
+    fields, _ = byte_fields(v)
+    lengths, e = block_lengths(v, l)
+    found = [[None] * (length + e) for length in lengths]
+    for own, (k, i) in zip(fields, block_numbers(v, l)):
+        found[k][i] = own
+    return found
+
+
+class Damage:
+    """A square and rows of what isn't known, to be made worse."""
+
+    def __init__(self, v, l, rows, seed=1):
+        self.blocks = fields_by_block(v, l)
+        self.rows = list(rows)
+        self.unknown = [0] * side_of(v)
+        self.sequence = Sequence(seed)
+
+    def spoil(self, k, wrong, lost):
+        """So many bytes of block k wrong, and so many others lost: one field each, or several."""
+        own = self.blocks[k]
+        places = self.sequence.some(range(len(own)), wrong + lost)
+        chosen = self.sequence.some(places, wrong)
+        for place in places:
+            some = self.sequence.some(own[place], 1 + self.sequence.below(8))
+            if place in chosen:
+                self.rows = flipped(self.rows, some)
+            else:
+                self.unknown = flipped(self.unknown, some)
+                self.rows = flipped(self.rows, self.sequence.some(own[place], self.sequence.below(9)))

@@ -4,15 +4,9 @@ import unittest
 from fieldsquares.squares import bits, make, room, weigh
 from helper import (
     ALL_SIZES_AND_LEVELS, DATA_BYTES, VAST, Sequence, Untouchable, all_fewest_cuts, bits_of_cut, block_lengths,
-    blocks_off, byte_fields, bytes_off, cut_of, dark, data_of_bits, fixed_picture, is_word,
+    blocks_off, byte_fields, bytes_off, cut_of, dark, data_of_bits, data_off, fixed_picture, is_word,
     length_bits, next_byte_bits, side_of, square_of_data, text, unmasked, weight_terms,
 )
-
-
-def data_off(v, l, m, rows):
-    lengths, _ = block_lengths(v, l)
-    blocks = blocks_off(v, l, bytes_off(v, m, rows))
-    return [byte for block, length in zip(blocks, lengths) for byte in block[:length]]
 
 
 def bits_off(v, l, m, rows):

@@ -2,48 +2,11 @@ import unittest
 
 from fieldsquares.squares import make, read
 from helper import (
-    ALL_SIZES_AND_LEVELS, BLOCK_TABLE, DATA_BYTES, LEVEL_MASK_NUMBERS, VAST, Sequence, Untouchable, bits_of_part,
-    block_lengths, block_numbers, blocks_off, byte_fields, bytes_off, checks_of_row, data_of_bits, fixed_picture,
-    flipped, length_bits, level_mask_copies, mended_by_trying, rows_with, side_of,
+    ALL_SIZES_AND_LEVELS, BLOCK_TABLE, DATA_BYTES, LEVEL_MASK_NUMBERS, VAST, Damage, Sequence, Untouchable, answer_of,
+    bits_of_part, block_lengths, blocks_off, byte_fields, bytes_off, checks_of_row, data_of_bits, fields_by_block,
+    fixed_picture, flipped, length_bits, level_mask_copies, mended_by_trying, rows_with, side_of,
     square_of_bytes, square_of_data, text, written,
 )
-
-
-def answer_of(l, m, t, copy=0, wrong=0, lost=0):
-    return [0, l, m, copy, wrong, lost, len(t)] + list(t)
-
-
-def fields_by_block(v, l):
-    """For each block, the eight fields of each of its bytes."""
-    fields, _ = byte_fields(v)
-    lengths, e = block_lengths(v, l)
-    found = [[None] * (length + e) for length in lengths]
-    for own, (k, i) in zip(fields, block_numbers(v, l)):
-        found[k][i] = own
-    return found
-
-
-class Damage:
-    """A square and rows of what isn't known, to be made worse."""
-
-    def __init__(self, v, l, rows, seed=1):
-        self.blocks = fields_by_block(v, l)
-        self.rows = list(rows)
-        self.unknown = [0] * side_of(v)
-        self.sequence = Sequence(seed)
-
-    def spoil(self, k, wrong, lost):
-        """So many bytes of block k wrong, and so many others lost: one field each, or several."""
-        own = self.blocks[k]
-        places = self.sequence.some(range(len(own)), wrong + lost)
-        chosen = self.sequence.some(places, wrong)
-        for place in places:
-            some = self.sequence.some(own[place], 1 + self.sequence.below(8))
-            if place in chosen:
-                self.rows = flipped(self.rows, some)
-            else:
-                self.unknown = flipped(self.unknown, some)
-                self.rows = flipped(self.rows, self.sequence.some(own[place], self.sequence.below(9)))
 
 
 class WhatWasMade(unittest.TestCase):
